@@ -1,0 +1,1 @@
+"""Blazonry: shields told in words."""
