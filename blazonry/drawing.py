@@ -9,19 +9,27 @@ TURNED = ("party", "quartered")
 
 def drawn(size, words):
     """Tell the drawing of a saying."""
+    return drawings(size, words)[0]
+
+
+def drawings(size, words):
+    """Tell of each word of the full saying the drawing of the saying that it begins."""
     full = filled(size, words)
     sizes = word_sizes(size, words)
+    told = []
     # From the last word to the first: the two sayings behind a word are drawn
     # ahead of it, the first one last.
-    done = []
+    waiting = []
     for field, word in reversed(list(zip(sizes, full))):
         if word in COLOURS:
-            done.append(_plain(field, word))
+            rows = _plain(field, word)
         else:
-            first = done.pop()
-            second = done.pop()
-            done.append(_joined(word, first, second))
-    return done[0]
+            first = waiting.pop()
+            second = waiting.pop()
+            rows = _joined(word, first, second)
+        waiting.append(rows)
+        told.append(rows)
+    return told[::-1]
 
 
 def alike(size, one, other):
@@ -44,7 +52,30 @@ def mirrored(size, words):
     return done[0]
 
 
-def is_own(size, piece, row, column):
+def own_cells(size, piece):
+    """Tell (row, column) of each of the piece's own cells in a field of the size."""
+    width, height = size
+    return [
+        (row, column)
+        for row in range(height)
+        for column in range(width)
+        if _is_own(size, piece, row, column)
+    ]
+
+
+def overlaid(piece, colour, rows):
+    """Tell the rows with the piece's own cells in its colour."""
+    size = (len(rows[0]), len(rows))
+    painted = []
+    for row, cells in enumerate(rows):
+        painted.append(tuple([
+            colour if _is_own(size, piece, row, column) else cell
+            for column, cell in enumerate(cells)
+        ]))
+    return tuple(painted)
+
+
+def _is_own(size, piece, row, column):
     """Tell whether a cell of a field of the size is one of the piece's own."""
     width, height = size
     if piece == "pillar":
@@ -70,21 +101,9 @@ def _joined(word, first, second):
         return first + second
     if word == "quartered":
         return _beside(first, second) + _beside(second, first)
-    return _overlaid(word, first[0][0], second)
+    return overlaid(word, first[0][0], second)
 
 
 def _beside(left, right):
     """Tell the drawing that has one drawing on the left and the other on the right."""
     return tuple([one + other for one, other in zip(left, right)])
-
-
-def _overlaid(piece, colour, rows):
-    """Tell the rows with the piece's own cells in its colour."""
-    size = (len(rows[0]), len(rows))
-    painted = []
-    for row, cells in enumerate(rows):
-        painted.append(tuple([
-            colour if is_own(size, piece, row, column) else cell
-            for column, cell in enumerate(cells)
-        ]))
-    return tuple(painted)

@@ -35,13 +35,26 @@ def trimmed(size, words):
     return full[:many]
 
 
+def next_words(size, words):
+    """Tell the words that may stand behind those of a saying."""
+    sizes = word_sizes(size, words)
+    if len(sizes) == len(words):
+        return []
+    return [word for word in COLOURS + tuple(LEAST) if can_stand(sizes[len(words)], word)]
+
+
+def need_saying(size, words):
+    """Refuse words that are no saying."""
+    word_sizes(size, words)
+
+
 def word_sizes(size, words):
     """Tell of each word of the full saying the size that the saying it begins is for."""
     need_size(size)
     met = []
     awaited = [size]
     for place, word in enumerate(words):
-        if not awaited or not _can_stand(awaited[0], word):
+        if not awaited or not can_stand(awaited[0], word):
             raise BadSaying(place)
         met.append(awaited[0])
         awaited = _sizes_behind(awaited[0], word) + awaited[1:]
@@ -49,7 +62,7 @@ def word_sizes(size, words):
     return met + awaited
 
 
-def _can_stand(size, word):
+def can_stand(size, word):
     """Tell whether a saying for the size may begin with the word."""
     if word in COLOURS:
         return True
